@@ -1,0 +1,1 @@
+"""Foldbook: maps that fold points together, and what they make."""
