@@ -1,6 +1,8 @@
 """The calls of one list, one behind another, and their answers."""
 
+from foldmaps.kinds import kind
 from foldmaps.points import core, ends, image, is_map, kernel, power, rest, steps, then
+from foldmaps.semigroups import made_of
 from foldmaps.solving import alike, before, behind, undo
 
 THEN = 1
@@ -15,12 +17,28 @@ UNDO = 9
 BEFORE = 10
 BEHIND = 11
 ALIKE = 12
+MAKE = 13
+NTH = 14
+PLACE = 15
+WORD = 16
+PRODUCT = 17
+CLASS_OF = 18
+CLASSES = 19
+ABOVE = 20
+KIND = 21
+UNDOES = 22
+LEAST = 23
 
 DONE = 0
 WRONG = -1
 NONE_FOUND = -2
+TOO_MANY = -3
+NOT_MADE = -9
 
 TOO_OFTEN = 4294967296
+MOST_GENERATORS = 6
+HOW_MANY_BELOWS = 3
+HOW_MANY_CLASSINGS = 4
 
 
 class UnknownCall(ValueError):
@@ -51,27 +69,63 @@ class Reader:
         return [self.take_row() for place in range(size)]
 
 
+class Book:
+    def __init__(self):
+        self.made = None
+
+    def answer(self, call, numbers, rows):
+        if call < THEN or call > LEAST:
+            raise UnknownCall(f"call {call} is not answered")
+        if call < MAKE:
+            return answer_of_maps(call, numbers, rows)
+        if call == MAKE:
+            return self.make(rows)
+        if self.made is None:
+            return [NOT_MADE]
+        return answer_of_semigroup(self.made, call, numbers, rows)
+
+    def make(self, rows):
+        if len(rows) < 1 or len(rows) > MOST_GENERATORS or not are_maps_of_one_size(rows):
+            return [WRONG]
+        made = made_of(rows)
+        if made is None:
+            return [TOO_MANY]
+        self.made = made
+        return [DONE, len(made.maps)]
+
+
 def answers(calls):
     reader = Reader(calls)
+    book = Book()
     told = []
     while reader.has_more():
         call = reader.take_number()
         numbers = reader.take_row()
         rows = reader.take_rows()
-        answer = answer_of(call, numbers, rows)
+        answer = book.answer(call, numbers, rows)
         told.append(len(answer))
         told.extend(answer)
     return told
 
 
-def answer_of(call, numbers, rows):
-    if call < THEN or call > ALIKE:
-        raise UnknownCall(f"call {call} is not answered")
+def answer_of_maps(call, numbers, rows):
     if call == POWER and numbers[0] >= TOO_OFTEN:
         return [WRONG]
     if not are_maps_of_one_size(rows):
         return [WRONG]
-    found = found_by(call, numbers, rows)
+    return answer_with(found_by(call, numbers, rows))
+
+
+def answer_of_semigroup(made, call, numbers, rows):
+    if not are_maps_of_one_size(rows):
+        return [WRONG]
+    limits = limits_of(call, len(made.maps))
+    if any([numbers[at] >= limits[at] for at in range(len(limits))]):
+        return [WRONG]
+    return answer_with(found_in(made, call, numbers, rows))
+
+
+def answer_with(found):
     if found is None:
         return [NONE_FOUND]
     return [DONE] + found
@@ -113,3 +167,44 @@ def found_of_one(call, a):
     if call == STEPS:
         return steps(a)
     return undo(a)
+
+
+def limits_of(call, size):
+    # Where undoes starts and how many points least allows are no elements' numbers: any will do.
+    if call == NTH or call == WORD or call == UNDOES:
+        return [size]
+    if call == PRODUCT:
+        return [size, size]
+    if call == CLASS_OF:
+        return [HOW_MANY_CLASSINGS, size]
+    if call == CLASSES:
+        return [HOW_MANY_CLASSINGS]
+    if call == ABOVE:
+        return [HOW_MANY_BELOWS, size, size]
+    return []
+
+
+def found_in(made, call, numbers, rows):
+    if call == NTH:
+        return made.maps[numbers[0]]
+    if call == PLACE:
+        return made.place(rows[0])
+    if call == WORD:
+        return made.words[numbers[0]]
+    if call == LEAST:
+        return made.least(numbers[0])
+    return found_by_products(made.table(), call, numbers)
+
+
+def found_by_products(table, call, numbers):
+    if call == PRODUCT:
+        return [table.rows[numbers[0]][numbers[1]]]
+    if call == CLASS_OF:
+        return [table.class_of(numbers[0], numbers[1])]
+    if call == CLASSES:
+        return table.classes(numbers[0])
+    if call == ABOVE:
+        return [table.above(numbers[0], numbers[1], numbers[2])]
+    if call == KIND:
+        return [kind(table)]
+    return table.undoes(numbers[0], numbers[1])

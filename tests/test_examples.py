@@ -2,7 +2,7 @@
 
 import unittest
 
-from asking import ask, call, line
+from asking import ask, ask_made, call, line
 from foldmaps.maps import answers
 
 
@@ -30,6 +30,17 @@ class TheDocumentsExamples(unittest.TestCase):
 
     def test_alike(self):
         self.assertEqual(answers([12, 0, 2, 3, 1, 0, 2, 3, 0, 2, 1]), [4, 0, 1, 2, 0])
+
+    def test_make(self):
+        self.assertEqual(answers([13, 0, 2, 2, 1, 0, 2, 0, 0]), [2, 0, 4])
+        made = [13, 0, 2, 2, 1, 0, 2, 0, 0]
+        self.assertEqual(
+            answers(made + [14, 1, 0, 0, 14, 1, 1, 0, 14, 1, 2, 0, 14, 1, 3, 0]),
+            [2, 0, 4, 3, 0, 1, 0, 3, 0, 0, 0, 3, 0, 0, 1, 3, 0, 1, 1])
+        self.assertEqual(
+            answers(made + [16, 1, 0, 0, 16, 1, 1, 0, 16, 1, 2, 0, 16, 1, 3, 0]),
+            [2, 0, 4, 2, 0, 0, 2, 0, 1, 3, 0, 0, 0, 3, 0, 1, 0])
+        self.assertEqual(answers(made + [15, 0, 1, 2, 1, 1, 15, 0, 1, 2, 0, 1]), [2, 0, 4, 2, 0, 3, 2, 0, 2])
 
     def test_all_in_one_line(self):
         asked = line(
@@ -85,6 +96,43 @@ class OrdinaryMaps(unittest.TestCase):
         self.assertEqual(ask("alike", [1, 2, 2], [0, 0, 1]), [0, 2, 1, 0])
         self.assertEqual(ask("alike", [1, 2, 2], [2, 2, 2]), [-2])
         self.assertEqual(ask("alike", [1, 0, 2, 2], [1, 0, 3, 3]), [0, 0, 1, 3, 2])
+
+
+class OrdinarySemigroups(unittest.TestCase):
+    # 1 2 2 and 0 0 2 by their words: 0: 1 2 2, 1: 0 0 2, 0 0: 2 2 2, 0 1: 0 2 2, 1 0: 1 1 2, and no others.
+    folds = [[1, 2, 2], [0, 0, 2]]
+
+    def test_elements_and_words(self):
+        told = ask_made(self.folds, [call("nth", i) for i in range(5)] + [call("word", i) for i in range(5)])
+        self.assertEqual(told[:5], [[0, 1, 2, 2], [0, 0, 0, 2], [0, 2, 2, 2], [0, 0, 2, 2], [0, 1, 1, 2]])
+        self.assertEqual(told[5:], [[0, 0], [0, 1], [0, 0, 0], [0, 0, 1], [0, 1, 0]])
+
+    def test_product(self):
+        rows = [[2, 3, 2, 2, 0], [4, 1, 2, 1, 4], [2, 2, 2, 2, 2], [0, 3, 2, 3, 0], [2, 1, 2, 2, 4]]
+        told = ask_made(self.folds, [call("product", i, j) for i in range(5) for j in range(5)])
+        self.assertEqual(told, [[0, number] for row in rows for number in row])
+
+    def test_above(self):
+        asked = [(0, 3, 1), (0, 1, 3), (1, 4, 1), (1, 1, 4), (1, 3, 1), (2, 3, 4), (2, 2, 0), (2, 0, 2), (0, 4, 4)]
+        self.assertEqual(
+            ask_made(self.folds, [call("above", *one) for one in asked]),
+            [[0, 1], [0, 1], [0, 1], [0, 1], [0, 0], [0, 1], [0, 1], [0, 0], [0, 1]])
+
+    def test_classes(self):
+        self.assertEqual(
+            ask_made(self.folds, [call("classes", which) for which in range(4)]),
+            [[0, 0, 1, 2], [0, 0, 1, 2], [0, 0, 2], [0, 0, 1, 2, 3, 4]])
+        told = ask_made(self.folds, [call("class_of", which, i) for which in range(4) for i in range(5)])
+        self.assertEqual(told, [
+            [0, number] for number in (0, 1, 2, 1, 0, 0, 1, 2, 0, 1, 0, 0, 1, 0, 0, 0, 1, 2, 3, 4)])
+
+    def test_kind_undoes_least(self):
+        self.assertEqual(ask_made(self.folds, [call("kind")]), [[0, 4 + 8 + 64]])
+        self.assertEqual(
+            ask_made(self.folds, [call("undoes", i, start) for i in (0, 1) for start in range(3)]),
+            [[0, 1], [0, 1], [-2], [0, 0], [0, 1], [0, 3]])
+        self.assertEqual(
+            ask_made(self.folds, [call("least", rank) for rank in range(4)]), [[-2], [0, 2], [0, 0], [0, 0]])
 
 
 if __name__ == "__main__":

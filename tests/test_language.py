@@ -30,6 +30,8 @@ UNUSED_NAMES = set(
 UNUSED_WORDS = re.compile(
     r"\b(type|typing|typing_extensions|enum|Enum|IntEnum|StrEnum|Flag|IntFlag|Generic|Protocol|ABC|ABCMeta|"
     r"namedtuple|NamedTuple|TypedDict|TYPE_CHECKING|abstractmethod)\b|dataclass|overload|contextmanager")
+WALKERS = ("list", "tuple", "dict", "sorted", "sum", "any", "all", "enumerate", "zip", "min", "max")
+BUILT_IN_METHODS = {name for kind in (str, int, list, tuple, dict, set, frozenset, bytes) for name in dir(kind)}
 
 
 class Language(unittest.TestCase):
@@ -69,8 +71,37 @@ class Language(unittest.TestCase):
             self.assertRegex(node.module, r"^foldmaps\.[a-z0-9_]+$", place)
             defined = self.trees[node.module.split(".")[1] + ".py"].body
             names = [one.name for one in defined if isinstance(one, (ast.FunctionDef, ast.ClassDef))]
+            names += [one.targets[0].id for one in defined if isinstance(one, ast.Assign)]
             for alias in node.names:
                 self.assertIn(alias.name, names, place)
+                self.assertIsNone(alias.asname, place)
+
+    def test_no_two_files_draw_from_one_another(self):
+        drawn = {}
+        for name, tree in self.trees.items():
+            imports = [node for node in tree.body if isinstance(node, ast.ImportFrom)]
+            drawn[name] = {node.module.split(".")[1] + ".py" for node in imports}
+        left = dict(drawn)
+        while left:
+            free = [name for name in left if not left[name] & set(left)]
+            self.assertTrue(free, f"these draw from one another: {sorted(left)}")
+            for name in free:
+                del left[name]
+
+    def test_each_name_is_bound_once_at_the_top(self):
+        for name, tree in self.trees.items():
+            bound = []
+            for node in tree.body:
+                if isinstance(node, ast.Assign):
+                    self.assertIsInstance(ast.literal_eval(node.value), (int, str), f"{name}:{node.lineno}")
+                    bound.append(node.targets[0].id)
+                elif isinstance(node, ast.ImportFrom):
+                    bound += [alias.name for alias in node.names]
+                elif isinstance(node, (ast.FunctionDef, ast.ClassDef)):
+                    bound.append(node.name)
+                else:
+                    self.assertIsInstance(node.value, ast.Constant, f"{name}:{node.lineno}")
+            self.assertEqual(len(bound), len(set(bound)), name)
 
     def test_forms(self):
         for place, node in self.nodes(ast.stmt):
@@ -128,6 +159,51 @@ class Language(unittest.TestCase):
                 self.assertIn(node.func.attr, OWN_METHODS | own, place)
         for place, node in self.nodes(ast.Attribute):
             self.assertNotIn(node.attr, UNUSED_NAMES | {"format", "format_map"}, place)
+
+    def test_no_name_is_a_method_and_a_value(self):
+        methods = []
+        for place, node in self.nodes(ast.ClassDef):
+            own = [one.name for one in node.body if isinstance(one, ast.FunctionDef)]
+            self.assertEqual(len(own), len(set(own)), place)
+            methods += own
+        for place, node in self.nodes(ast.Attribute):
+            if isinstance(node.ctx, ast.Store):
+                self.assertNotIn(node.attr, methods, place)
+                self.assertNotIn(node.attr, BUILT_IN_METHODS, place)
+        for name in methods:
+            self.assertNotIn(name, BUILT_IN_METHODS - {"__init__"})
+
+    def test_is_stands_beside_none_true_and_false(self):
+        for place, node in self.nodes(ast.Compare):
+            for operator, right in zip(node.ops, node.comparators):
+                if isinstance(operator, (ast.Is, ast.IsNot)):
+                    self.assertIn(ast.unparse(right), ("None", "True", "False"), place)
+
+    def test_ranges_are_walked_and_sets_are_used_on_the_spot(self):
+        for name, tree in self.trees.items():
+            above = {inner: outer for outer in ast.walk(tree) for inner in ast.iter_child_nodes(outer)}
+            for node in ast.walk(tree):
+                if not isinstance(node, ast.Call):
+                    continue
+                called = ast.unparse(node.func).split(".")[-1]
+                outer = above[node]
+                place = f"{name}:{node.lineno}"
+                if called in ("range", "zip", "enumerate", "reversed", "items", "keys", "values"):
+                    if isinstance(outer, ast.Call):
+                        self.assertIn(ast.unparse(outer.func), WALKERS, place)
+                        self.assertIs(outer.args[0], node, place)
+                    else:
+                        self.assertIsInstance(outer, (ast.For, ast.comprehension), place)
+                if called == "set":
+                    self.assertIsInstance(outer, ast.Call, place)
+                    self.assertIn(ast.unparse(outer.func), ("sorted", "len"), place)
+                    self.assertEqual(outer.keywords, [], place)
+
+    def test_no_power_but_with_a_written_exponent(self):
+        for place, node in self.nodes(ast.BinOp):
+            if isinstance(node.op, ast.Pow):
+                self.assertIsInstance(node.right, ast.Constant, place)
+            self.assertNotIsInstance(node.op, (ast.LShift, ast.RShift), place)
 
 
 if __name__ == "__main__":

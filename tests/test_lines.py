@@ -3,9 +3,11 @@
 import contextlib
 import io
 import sys
+import time
 import unittest
 
-from asking import HIGHEST, OF_ONE, OF_TWO, apart, ask_all, call, line
+from asking import (
+    HIGHEST, JUST_OVER_100, NEAR_100, OF_ONE, OF_TWO, apart, ask_all, ask_made, call, line, mixed_map, numbers_from)
 from foldmaps.maps import UnknownCall, answers
 
 
@@ -17,18 +19,6 @@ class Unchanging(list):
 
     append = extend = insert = pop = remove = clear = sort = reverse = refuse
     __setitem__ = __delitem__ = __iadd__ = __imul__ = refuse
-
-
-def numbers_from(seed):
-    """A row of numbers without end that look mixed and are the same each time."""
-    state = seed
-    while True:
-        state = (state * 6364136223846793005 + 1442695040888963407) % 2 ** 64
-        yield state >> 33
-
-
-def mixed_map(mixed, size=10):
-    return [next(mixed) % size for each in range(size)]
 
 
 def mixed_move(mixed, size=10):
@@ -85,7 +75,7 @@ NEAR_PAIRS = (
 )
 
 
-def long_row():
+def map_row():
     """400 calls of maps of ten points: every call, and alike with and without an answer."""
     mixed = numbers_from(7)
     calls = []
@@ -99,6 +89,51 @@ def long_row():
     return calls[:400]
 
 
+def make_row():
+    """400 calls: makes of near 100 elements and of just more, each with a question that needs all products."""
+    calls = []
+    while len(calls) < 400:
+        for size, generators in NEAR_100:
+            calls += [call("make", *generators), call("kind")]
+        for size, generators in JUST_OVER_100:
+            calls += [call("make", *generators), call("classes", 2)]
+    return calls[:400]
+
+
+def question_row(generators):
+    """A make of 100 elements and 399 calls of class_of, classes, above and kind."""
+    calls = [call("make", *generators)]
+    for i in range(100):
+        calls += [
+            call("class_of", i % 4, i), call("classes", i % 4), call("above", i % 3, 99 - i, i), call("kind")]
+    return calls[:400]
+
+
+def mixed_row():
+    """400 calls of every sort: maps, makes and questions, and those that are refused."""
+    mixed = numbers_from(3)
+    calls = []
+    while len(calls) < 400:
+        size, generators = NEAR_100[next(mixed) % len(NEAR_100)]
+        i = next(mixed) % 110
+        j = next(mixed) % 110
+        a = mixed_map(mixed, 3)
+        calls += [
+            call("nth", i), call("word", j), call("product", i, j), call("class_of", i % 5, j), call("then", a, a),
+            call("make", *generators) if i % 3 else call("make", a, [1, 2, 0]), call("classes", j % 5),
+            call("place", a), call("above", i % 4, i, j), call("kind"), call("undoes", i, j // 4),
+            call("least", i % 6), call("rest", a), call("place", generators[0]), call("make", a, [0])]
+    return calls[:400]
+
+
+def long_rows():
+    return [map_row(), make_row(), question_row(NEAR_100[5][1]), question_row(NEAR_100[7][1]), mixed_row()]
+
+
+# Far more than it takes: what is bounded is how a user would fare, not this machine.
+BEARABLE = 10
+
+
 class Lines(unittest.TestCase):
     def test_empty(self):
         self.assertEqual(answers([]), [])
@@ -110,8 +145,8 @@ class Lines(unittest.TestCase):
         self.assertEqual(answers(asked), [
             2, 0, 1, 3, 0, 1, 1, 1, -1, 4, 0, 2, 1, 0, 1, -2, 3, 0, 0, 1, 1, -1, 3, 0, 0, 1])
 
-    def test_the_longest(self):
-        calls = long_row()
+    def test_the_longest_of_maps(self):
+        calls = map_row()
         self.assertEqual(len(calls), 400)
         told = apart(answers(line(*calls)))
         self.assertEqual(len(told), 400)
@@ -119,6 +154,34 @@ class Lines(unittest.TestCase):
         alikes = [answer for one, answer in zip(calls, told) if one[0] == 12]
         self.assertIn([-2], alikes)
         self.assertTrue(any(len(answer) == 11 for answer in alikes))
+
+    def test_the_longest_of_makes(self):
+        in_turn = []
+        for size, generators in NEAR_100:
+            in_turn += [[0, size], *ask_made(generators, [call("kind")])]
+        # What is refused leaves the last good one, which is told of then.
+        staying = ask_made(NEAR_100[-1][1], [call("classes", 2)])
+        for size, generators in JUST_OVER_100:
+            in_turn += [[-3], *staying]
+        self.assertEqual(ask_all(make_row()), (in_turn * 400)[:400])
+
+    def test_the_longest_of_questions(self):
+        for generators in (NEAR_100[5][1], NEAR_100[7][1]):
+            calls = question_row(generators)
+            self.assertEqual(len(calls), 400)
+            told = ask_all(calls)
+            self.assertEqual(told[0], [0, 100])
+            for place in range(1, 400, 13):
+                self.assertEqual([told[place]], ask_made(generators, [calls[place]]))
+
+    def test_the_longest_are_soon_answered(self):
+        for calls in long_rows():
+            asked = line(*calls)
+            self.assertEqual(len(calls), 400)
+            self.assertLessEqual(len(asked), 16000)
+            before = time.process_time()
+            answers(asked)
+            self.assertLess(time.process_time() - before, BEARABLE)
 
     def test_the_widest(self):
         asked = line(*[call("alike", [HIGHEST] * 12, [HIGHEST] * 12)] * 400)
@@ -162,40 +225,47 @@ class AlikeOfTenPoints(unittest.TestCase):
 
 class NothingChangedOrKept(unittest.TestCase):
     def test_what_is_handed_in_stays(self):
-        asked = line(*long_row())
-        kept = list(asked)
-        answers(asked)
-        self.assertEqual(asked, kept)
+        for calls in long_rows():
+            asked = line(*calls)
+            kept = list(asked)
+            answers(asked)
+            self.assertEqual(asked, kept)
 
     def test_it_is_not_changed_for_a_while_either(self):
-        asked = line(*long_row())
-        self.assertEqual(answers(Unchanging(asked)), answers(asked))
+        for calls in long_rows():
+            asked = line(*calls)
+            self.assertEqual(answers(Unchanging(asked)), answers(asked))
 
     def test_the_same_list_twice(self):
-        asked = line(*long_row())
-        first = answers(asked)
-        answers(call("ends", [1, 2, 3, 3]))
-        answers(call("ends", []))
-        self.assertEqual(answers(asked), first)
+        for calls in long_rows():
+            asked = line(*calls)
+            first = answers(asked)
+            answers(line(call("ends", [1, 2, 3, 3]), call("make", [1, 0], [0, 0]), call("kind")))
+            answers(line(call("ends", []), call("make", [])))
+            self.assertEqual(answers(asked), first)
 
     def test_changing_an_answer_changes_no_later_one(self):
-        asked = line(call("rest", [0, 1]), call("power", 1, [1, 1]), call("then", [0, 1], [1, 0]))
+        asked = line(
+            call("rest", [0, 1]), call("power", 1, [1, 1]), call("then", [0, 1], [1, 0]), call("make", [1, 0]),
+            call("nth", 0), call("word", 0), call("classes", 0), call("nth", 0), call("word", 0), call("classes", 0))
+        kept = list(asked)
         first = answers(asked)
         wanted = list(first)
         first[:] = [99] * len(first)
         self.assertEqual(answers(asked), wanted)
-        self.assertEqual(asked, line(call("rest", [0, 1]), call("power", 1, [1, 1]), call("then", [0, 1], [1, 0])))
+        self.assertEqual(asked, kept)
 
     def test_the_answer_hangs_on_the_maps_alone(self):
-        calls = long_row()
+        calls = map_row()
         forth = ask_all(calls)
         back = ask_all(calls[::-1])
         self.assertEqual(forth, back[::-1])
 
     def test_whole_numbers_in_a_list(self):
-        told = answers(line(*long_row()))
-        self.assertIs(type(told), list)
-        self.assertEqual({type(number) for number in told}, {int})
+        for calls in long_rows():
+            told = answers(line(*calls))
+            self.assertIs(type(told), list)
+            self.assertEqual({type(number) for number in told}, {int})
 
 
 class NothingElseDone(unittest.TestCase):
@@ -203,12 +273,13 @@ class NothingElseDone(unittest.TestCase):
         out = io.StringIO()
         err = io.StringIO()
         with contextlib.redirect_stdout(out), contextlib.redirect_stderr(err):
-            answers(line(*long_row()))
+            for calls in long_rows():
+                answers(line(*calls))
         self.assertEqual(out.getvalue() + err.getvalue(), "")
 
     def test_nothing_is_nested_deep(self):
-        asked = line(*long_row())
-        wanted = answers(asked)
+        rows = [line(*calls) for calls in long_rows()]
+        wanted = [answers(asked) for asked in rows]
         depth = 0
         frame = sys._getframe()
         while frame is not None:
@@ -217,7 +288,7 @@ class NothingElseDone(unittest.TestCase):
         limit = sys.getrecursionlimit()
         sys.setrecursionlimit(depth + 60)
         try:
-            told = answers(asked)
+            told = [answers(asked) for asked in rows]
         finally:
             sys.setrecursionlimit(limit)
         self.assertEqual(told, wanted)
